@@ -1,0 +1,1 @@
+"""Graphs of good kinds, and why others aren't."""

@@ -1,0 +1,110 @@
+"""Each answer held against a plain search that is written from the document's words."""
+
+import unittest
+from itertools import combinations, permutations, product
+
+from goodkinds.graphs import chordal, judge, sides
+from making import all_graphs, some_graphs
+
+
+def matrix_of(graph):
+    return [[number >> other & 1 == 1 for other in range(len(graph))] for number in graph]
+
+
+def is_ring(joined, row):
+    return all(joined[row[place - 1]][row[place]] for place in range(len(row)))
+
+
+def is_chordless(joined, row):
+    """A ring of as many joined pairs as it has nodes: no others of them are joined."""
+    return is_ring(joined, row) and sum(joined[one][other] for one, other in combinations(row, 2)) == len(row)
+
+
+def first_row(size, lengths, fits):
+    """permutations of a rising row come with the lesser node first where two first differ."""
+    for length in lengths:
+        for row in permutations(range(size), length):
+            if fits(row):
+                return list(row)
+    return None
+
+
+def proves_order(joined, order):
+    for place, node in enumerate(order):
+        behind = [other for other in order[place + 1:] if joined[node][other]]
+        if not all(joined[one][other] for one, other in combinations(behind, 2)):
+            return False
+    return True
+
+
+def least_of_part(joined, node):
+    part = [node]
+    for member in part:
+        part.extend(other for other in range(len(joined)) if joined[member][other] and other not in part)
+    return min(part)
+
+
+def proves_sides(joined, marks):
+    size = len(joined)
+    differ = all(marks[one] != marks[other] for one, other in combinations(range(size), 2) if joined[one][other])
+    return differ and all(marks[least_of_part(joined, node)] == 0 for node in range(size))
+
+
+def judge_by_search(graph):
+    joined = matrix_of(graph)
+    return [0, sum(joined[one][other] for one, other in combinations(range(len(graph)), 2))]
+
+
+def chordal_by_search(graph):
+    joined = matrix_of(graph)
+    size = len(graph)
+    ring = first_row(size, range(4, size + 1), lambda row: is_chordless(joined, row))
+    order = first_row(size, [size], lambda row: proves_order(joined, row))
+    assert (ring is None) != (order is None), "of each kind either the one or the other is there"
+    return [1] + order if ring is None else [0] + ring
+
+
+def sides_by_search(graph):
+    joined = matrix_of(graph)
+    size = len(graph)
+    ring = first_row(size, range(3, size + 1, 2), lambda row: is_ring(joined, row))
+    proofs = [list(marks) for marks in product((0, 1), repeat=size) if proves_sides(joined, marks)]
+    assert len(proofs) == (1 if ring is None else 0), "of each kind either the one or the other is there"
+    return [1] + proofs[0] if ring is None else [0] + ring
+
+
+SEARCHES = ((judge, judge_by_search), (chordal, chordal_by_search), (sides, sides_by_search))
+
+
+class AgainstSearch(unittest.TestCase):
+    def hold(self, graphs):
+        for graph in graphs:
+            for call, search in SEARCHES:
+                self.assertEqual(call(list(graph)), search(graph), (call.__name__, graph))
+
+    def test_all_graphs_of_up_to_five_nodes(self):
+        for size in range(1, 6):
+            self.hold(all_graphs(size))
+
+    def test_graphs_of_six_nodes(self):
+        self.hold(some_graphs(6, 400))
+
+    def test_graphs_of_seven_nodes(self):
+        self.hold(some_graphs(7, 80))
+
+    def test_graphs_of_eight_nodes(self):
+        self.hold(some_graphs(8, 40))
+
+
+class NoGraphAmongSmall(unittest.TestCase):
+    def test_all_rows_of_up_to_three_small_numbers(self):
+        for size in (1, 2, 3):
+            graphs = [tuple(graph) for graph in all_graphs(size)]
+            for numbers in product(range(17), repeat=size):
+                if numbers not in graphs:
+                    for call in (judge, chordal, sides):
+                        self.assertEqual(call(list(numbers)), [-1], (call.__name__, numbers))
+
+
+if __name__ == "__main__":
+    unittest.main()
