@@ -2,6 +2,11 @@
 
 MOST_NODES = 8
 
+# Of a row of four nodes a, b, c, d: whether a b, a c, b c, a d, b d, c d are joined.
+RING_OF_FOUR = (True, False, True, True, False, True)
+BARE_PATH = (True, False, True, False, False, True)
+BARE_PAIRS = (True, False, False, False, False, True)
+
 
 def judge(graph):
     """How many pairs are joined."""
@@ -31,6 +36,37 @@ def sides(graph):
     if ring:
         return [0] + ring
     return [1] + two_sides(graph)
+
+
+def split(graph):
+    """1 and the first marks that prove it, or 0 and the first ring of four or five or bare pair of pairs."""
+    if not is_graph(graph):
+        return [-1]
+    # A chordless ring of six or more holds a bare pair of pairs: so behind the first search there are none.
+    forbidden = first_four(graph, (RING_OF_FOUR, BARE_PAIRS)) or first_ring(graph, 5, 1)
+    if forbidden:
+        return [0] + forbidden
+    return [1] + first_row(len(graph), [0, 1], lambda marks, mark: may_mark(graph, marks, mark))
+
+
+def steps(graph):
+    """1 and the first order that proves it, or 0 and the first ring of four, bare path or bare pair of pairs."""
+    if not is_graph(graph):
+        return [-1]
+    forbidden = first_four(graph, (RING_OF_FOUR, BARE_PATH, BARE_PAIRS))
+    if forbidden:
+        return [0] + forbidden
+    return [1] + first_row(len(graph), list(range(len(graph))), lambda row, node: may_step(graph, row, node))
+
+
+def nopath(graph):
+    """1 if there's no bare path, or 0 and the first one."""
+    if not is_graph(graph):
+        return [-1]
+    path = first_four(graph, (BARE_PATH,))
+    if path:
+        return [0] + path
+    return [1]
 
 
 def is_graph(graph):
@@ -134,3 +170,65 @@ def mark_part(graph, marks, start):
             if marks[other] is None and joined(graph, node, other):
                 marks[other] = 1 - marks[node]
                 waiting.append(other)
+
+
+def first_row(length, choices, fits):
+    """The first row of this length in which each choice fits those ahead of it; else no row."""
+    waiting = [[]]
+    while waiting:
+        row = waiting.pop()
+        if len(row) == length:
+            return row
+        # The last one put there is looked at next: so the lesser choice comes behind the greater.
+        for choice in reversed(choices):
+            if fits(row, choice):
+                waiting.append(row + [choice])
+    return []
+
+
+def first_four(graph, shapes):
+    """The first row of four nodes that has one of the shapes; else no row."""
+    return first_row(4, list(range(len(graph))), lambda row, node: begins_shape(graph, shapes, row, node))
+
+
+def begins_shape(graph, shapes, row, node):
+    """Whether the node is new and the row with it begins one of the shapes."""
+    told = pairs_joined(graph, row + [node])
+    return node not in row and any([shape[:len(told)] == told for shape in shapes])
+
+
+def pairs_joined(graph, row):
+    """For each pair of the row whether it's joined, in the order in which the shapes tell it."""
+    told = []
+    for place in range(len(row)):
+        for ahead in range(place):
+            told.append(joined(graph, row[ahead], row[place]))
+    return tuple(told)
+
+
+def may_mark(graph, marks, mark):
+    """Whether the node behind those marked can have this mark too."""
+    node = len(marks)
+    alike = [other for other in range(node) if marks[other] == mark]
+    return all([joined(graph, node, other) == (mark == 1) for other in alike])
+
+
+def may_step(graph, row, node):
+    """Whether the node is new, and behind the row with it all others can stand as they must."""
+    if node in row:
+        return False
+    ahead = row + [node]
+    left = list(range(len(graph)))
+    while len(left) > len(ahead):
+        # Who can stand last among those left still can when others have gone: so none is taken away wrongly.
+        ends = [other for other in left if other not in ahead and may_end(graph, left, other)]
+        if not ends:
+            return False
+        left = [other for other in left if other not in ends]
+    return True
+
+
+def may_end(graph, left, node):
+    """Whether this one of the nodes left is joined with all others of them or with none."""
+    near = [other for other in left if joined(graph, node, other)]
+    return len(near) in (0, len(left) - 1)

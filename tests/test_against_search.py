@@ -3,8 +3,8 @@
 import unittest
 from itertools import combinations, permutations, product
 
-from goodkinds.graphs import chordal, judge, sides
-from making import all_graphs, some_graphs
+from goodkinds.graphs import chordal, judge, nopath, sides, split, steps
+from making import all_graphs, good_graphs, some_graphs
 
 
 def matrix_of(graph):
@@ -18,6 +18,20 @@ def is_ring(joined, row):
 def is_chordless(joined, row):
     """A ring of as many joined pairs as it has nodes: no others of them are joined."""
     return is_ring(joined, row) and sum(joined[one][other] for one, other in combinations(row, 2)) == len(row)
+
+
+def has_just(joined, row, pairs):
+    """Of the row's places just these pairs are joined."""
+    places = combinations(range(len(row)), 2)
+    return all(joined[row[one]][row[other]] == ((one, other) in pairs) for one, other in places)
+
+
+def is_bare_path(joined, row):
+    return len(row) == 4 and has_just(joined, row, ((0, 1), (1, 2), (2, 3)))
+
+
+def is_bare_pairs(joined, row):
+    return len(row) == 4 and has_just(joined, row, ((0, 1), (2, 3)))
 
 
 def first_row(size, lengths, fits):
@@ -73,7 +87,47 @@ def sides_by_search(graph):
     return [1] + proofs[0] if ring is None else [0] + ring
 
 
-SEARCHES = ((judge, judge_by_search), (chordal, chordal_by_search), (sides, sides_by_search))
+def proves_marks(joined, marks):
+    pairs = combinations(range(len(marks)), 2)
+    return all(joined[one][other] == (marks[one] == 1) for one, other in pairs if marks[one] == marks[other])
+
+
+def split_by_search(graph):
+    joined = matrix_of(graph)
+    size = len(graph)
+    forbidden = first_row(size, (4, 5), lambda row: is_chordless(joined, row) or is_bare_pairs(joined, row))
+    proofs = [list(marks) for marks in product((0, 1), repeat=size) if proves_marks(joined, marks)]
+    assert (forbidden is None) != (proofs == []), "of each kind either the one or the other is there"
+    return [1] + proofs[0] if forbidden is None else [0] + forbidden
+
+
+def proves_steps(joined, order):
+    for place, node in enumerate(order):
+        if len({joined[node][other] for other in order[:place]}) > 1:
+            return False
+    return True
+
+
+def steps_by_search(graph):
+    joined = matrix_of(graph)
+    size = len(graph)
+    kinds = (is_chordless, is_bare_path, is_bare_pairs)
+    forbidden = first_row(size, [4], lambda row: any(kind(joined, row) for kind in kinds))
+    order = first_row(size, [size], lambda row: proves_steps(joined, row))
+    assert (forbidden is None) != (order is None), "of each kind either the one or the other is there"
+    return [1] + order if forbidden is None else [0] + forbidden
+
+
+def nopath_by_search(graph):
+    joined = matrix_of(graph)
+    path = first_row(len(graph), [4], lambda row: is_bare_path(joined, row))
+    return [1] if path is None else [0] + path
+
+
+SEARCHES = (
+    (judge, judge_by_search), (chordal, chordal_by_search), (sides, sides_by_search),
+    (split, split_by_search), (steps, steps_by_search), (nopath, nopath_by_search),
+)
 
 
 class AgainstSearch(unittest.TestCase):
@@ -95,6 +149,11 @@ class AgainstSearch(unittest.TestCase):
     def test_graphs_of_eight_nodes(self):
         self.hold(some_graphs(8, 40))
 
+    def test_graphs_of_good_kinds(self):
+        self.hold(good_graphs(6, 200))
+        self.hold(good_graphs(7, 80))
+        self.hold(good_graphs(8, 24))
+
 
 class NoGraphAmongSmall(unittest.TestCase):
     def test_all_rows_of_up_to_three_small_numbers(self):
@@ -102,7 +161,7 @@ class NoGraphAmongSmall(unittest.TestCase):
             graphs = [tuple(graph) for graph in all_graphs(size)]
             for numbers in product(range(17), repeat=size):
                 if numbers not in graphs:
-                    for call in (judge, chordal, sides):
+                    for call, search in SEARCHES:
                         self.assertEqual(call(list(numbers)), [-1], (call.__name__, numbers))
 
 
