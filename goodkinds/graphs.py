@@ -13,14 +13,14 @@ def judge(graph):
     if not is_graph(graph):
         return [-1]
     # Each pair is told twice, once from either end.
-    return [0, len(joined_rows(graph)) // 2]
+    return [0, sum([len(members(number)) for number in graph]) // 2]
 
 
 def chordal(graph):
     """1 and the first order that proves there's no chordless ring, or 0 and the first such ring."""
     if not is_graph(graph):
         return [-1]
-    ring = first_ring(graph, 4, 1)
+    ring = first_ring(graph, list(range(4, len(graph) + 1)))
     if ring:
         return [0] + ring
     return [1] + first_order(graph)
@@ -32,7 +32,7 @@ def sides(graph):
         return [-1]
     # A chord cuts an odd ring into two rings, one of them odd and shorter:
     # so the first odd ring has no chord, and it's enough to look at those without.
-    ring = first_ring(graph, 3, 2)
+    ring = first_ring(graph, list(range(3, len(graph) + 1, 2)))
     if ring:
         return [0] + ring
     return [1] + two_sides(graph)
@@ -42,8 +42,7 @@ def split(graph):
     """1 and the first marks that prove it, or 0 and the first ring of four or five or bare pair of pairs."""
     if not is_graph(graph):
         return [-1]
-    # A chordless ring of six or more holds a bare pair of pairs: so behind the first search there are none.
-    forbidden = first_four(graph, (RING_OF_FOUR, BARE_PAIRS)) or first_ring(graph, 5, 1)
+    forbidden = first_four(graph, (RING_OF_FOUR, BARE_PAIRS)) or first_ring(graph, [5])
     if forbidden:
         return [0] + forbidden
     return [1] + first_row(len(graph), [0, 1], lambda marks, mark: may_mark(graph, marks, mark))
@@ -69,6 +68,44 @@ def nopath(graph):
     return [1]
 
 
+def interval(graph):
+    """1 and two numbers for each node, or 0 and the first chordless ring or the first three nodes apart."""
+    if not is_graph(graph):
+        return [-1]
+    forbidden = first_ring(graph, list(range(4, len(graph) + 1))) or first_three(graph)
+    if forbidden:
+        return [0] + forbidden
+    greatest = greatest_cliques(graph)
+    order = first_row(len(greatest), greatest, lambda row, clique: may_follow(greatest, row, clique))
+    answer = [1]
+    for node in range(len(graph)):
+        places = [place for place in range(len(order)) if node in members(order[place])]
+        answer.extend([places[0], places[-1]])
+    return answer
+
+
+def directed(graph):
+    """1 if each joined pair can be directed so that ways of two steps have their short cut, else 0."""
+    if not is_graph(graph):
+        return [-1]
+    seen = []
+    for row in joined_rows(graph):
+        if row not in seen:
+            # Where no direction forces its own opposite all pairs can be directed: so a theorem of Gallai says.
+            forced = reached(row, lambda pair: forced_by(graph, pair))
+            if [row[1], row[0]] in forced:
+                return [0, 0]
+            seen.extend(forced)
+    return [0, 1]
+
+
+def cliques(graph):
+    """The greatest cliques, the lesser number first."""
+    if not is_graph(graph):
+        return [-1]
+    return [0] + greatest_cliques(graph)
+
+
 def is_graph(graph):
     """Whether the numbers tell a graph."""
     size = len(graph)
@@ -88,6 +125,16 @@ def joined(graph, node, other):
     return (graph[node] >> other) & 1 == 1
 
 
+def neighbours(graph, node, among):
+    """Those of some nodes that the node is joined with."""
+    return [other for other in among if joined(graph, node, other)]
+
+
+def members(nodes):
+    """The nodes of a set."""
+    return [node for node in range(MOST_NODES) if (nodes >> node) & 1 == 1]
+
+
 def joined_rows(graph):
     """All rows of two joined nodes, the first one first."""
     rows = []
@@ -98,34 +145,19 @@ def joined_rows(graph):
     return rows
 
 
-def first_ring(graph, shortest, step):
-    """The first ring without a chord that has shortest nodes, or step more, or twice step more ..; else no row."""
-    rows = joined_rows(graph)
-    for length in range(3, len(graph) + 1):
-        rows = longer_rows(graph, rows)
-        rings = [row for row in rows if joined(graph, row[-1], row[0])]
-        if rings and length >= shortest and (length - shortest) % step == 0:
-            return rings[0]
-        # In a longer ring the pair that closes this one would be a chord.
-        rows = [row for row in rows if not joined(graph, row[-1], row[0])]
+def first_ring(graph, lengths):
+    """The first ring without a chord that has one of these lengths, the shortest told first; else no row."""
+    for length in lengths:
+        ring = first_row(length, list(range(len(graph))), lambda row, node: begins_ring(graph, length, row, node))
+        if ring:
+            return ring
     return []
 
 
-def longer_rows(graph, rows):
-    """The rows with one node more, in the same order: so the first one stays first."""
-    longer = []
-    for row in rows:
-        for node in range(len(graph)):
-            if carries_on(graph, row, node):
-                longer.append(row + [node])
-    return longer
-
-
-def carries_on(graph, row, node):
-    """Whether the node is new, joined with the row's last, and with no other of it but perhaps the first."""
-    if node in row or not joined(graph, row[-1], node):
-        return False
-    return not any([joined(graph, node, other) for other in row[1:-1]])
+def begins_ring(graph, length, row, node):
+    """Whether the node is new and the row with it begins such a ring, or is one if it's as long."""
+    ends = [row[0], row[-1]] if len(row) == length - 1 else row[-1:]
+    return node not in row and neighbours(graph, node, row) == ends
 
 
 def first_order(graph):
@@ -143,7 +175,7 @@ def first_order(graph):
 
 def can_lead(graph, node, left):
     """Whether those of the nodes left that this one is joined with are all joined with one another."""
-    near = [other for other in left if joined(graph, node, other)]
+    near = neighbours(graph, node, left)
     for one in near:
         for other in near:
             if one != other and not joined(graph, one, other):
@@ -230,5 +262,74 @@ def may_step(graph, row, node):
 
 def may_end(graph, left, node):
     """Whether this one of the nodes left is joined with all others of them or with none."""
-    near = [other for other in left if joined(graph, node, other)]
-    return len(near) in (0, len(left) - 1)
+    return len(neighbours(graph, node, left)) in (0, len(left) - 1)
+
+
+def reached(start, following):
+    """All that one comes to from the start step by step, the start too."""
+    found = [start]
+    waiting = [start]
+    while waiting:
+        for other in following(waiting.pop()):
+            if other not in found:
+                found.append(other)
+                waiting.append(other)
+    return found
+
+
+def first_three(graph):
+    """The first row of three nodes, no two joined, with a way between any two past the third; else no row."""
+    return first_row(3, list(range(len(graph))), lambda row, node: begins_three(graph, row, node))
+
+
+def begins_three(graph, row, node):
+    """Whether the node is new and the row with it begins such a row of three."""
+    if node in row or neighbours(graph, node, row):
+        return False
+    if len(row) < 2:
+        return True
+    if not way_past(graph, row[0], row[1], node):
+        return False
+    return way_past(graph, row[0], node, row[1]) and way_past(graph, row[1], node, row[0])
+
+
+def way_past(graph, start, end, third):
+    """Whether one comes from the start to the end by nodes that are neither the third nor joined with it."""
+    free = [node for node in range(len(graph)) if node != third and not joined(graph, node, third)]
+    return start in free and end in reached(start, lambda node: neighbours(graph, node, free))
+
+
+def greatest_cliques(graph):
+    """The cliques that are in no other, the lesser number first."""
+    found = []
+    for nodes in range(1, 1 << len(graph)):
+        # No node is joined with itself: so a node that's joined with the whole set is outside it.
+        if is_clique(graph, nodes) and not any([number & nodes == nodes for number in graph]):
+            found.append(nodes)
+    return found
+
+
+def is_clique(graph, nodes):
+    """Whether any two nodes of the set are joined."""
+    return all([(graph[node] | 1 << node) & nodes == nodes for node in members(nodes)])
+
+
+def may_follow(greatest, row, clique):
+    """Whether the clique is new, and no node that the row's last has and it hasn't is in one still to come."""
+    if clique in row:
+        return False
+    ended = row[-1] & ~clique if row else 0
+    return not any([ended & other != 0 for other in greatest if other not in row])
+
+
+def forced_by(graph, pair):
+    """The directions that this one forces: without them a way of two steps would lack its short cut."""
+    start = pair[0]
+    end = pair[1]
+    forced = []
+    for other in range(len(graph)):
+        if other != start and joined(graph, other, end) and not joined(graph, other, start):
+            forced.append([other, end])
+        if other != end and joined(graph, other, start) and not joined(graph, other, end):
+            forced.append([start, other])
+    return forced

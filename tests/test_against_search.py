@@ -3,7 +3,7 @@
 import unittest
 from itertools import combinations, permutations, product
 
-from goodkinds.graphs import chordal, judge, nopath, sides, split, steps
+from goodkinds.graphs import chordal, cliques, directed, interval, judge, nopath, sides, split, steps
 from making import all_graphs, good_graphs, some_graphs
 
 
@@ -124,9 +124,102 @@ def nopath_by_search(graph):
     return [1] if path is None else [0] + path
 
 
+def sets_of(size):
+    """All sets that aren't empty, the lesser number first."""
+    for number in range(1, 2 ** size):
+        yield number, {node for node in range(size) if number >> node & 1}
+
+
+def is_clique(joined, nodes):
+    return all(joined[one][other] for one, other in combinations(sorted(nodes), 2))
+
+
+def greatest_cliques(joined):
+    found = [(number, nodes) for number, nodes in sets_of(len(joined)) if is_clique(joined, nodes)]
+    return [(number, nodes) for number, nodes in found if not any(nodes < other for same, other in found)]
+
+
+def cliques_by_search(graph):
+    return [0] + [number for number, nodes in greatest_cliques(matrix_of(graph))]
+
+
+def has_way(joined, start, end, third):
+    barred = [third] + [node for node in range(len(joined)) if joined[node][third]]
+    if start in barred or end in barred:
+        return False
+    walked = [start]
+    for member in walked:
+        walked.extend(node for node in range(len(joined)) if joined[member][node] and node not in walked + barred)
+    return end in walked
+
+
+def are_apart(joined, row):
+    for one, other, third in permutations(row):
+        if joined[one][other] or not has_way(joined, one, other, third):
+            return False
+    return True
+
+
+def stand_side_by_side(size, order):
+    for node in range(size):
+        places = [place for place, nodes in enumerate(order) if node in nodes]
+        if places[-1] - places[0] + 1 != len(places):
+            return False
+    return True
+
+
+def interval_proof(joined):
+    size = len(joined)
+    for order in permutations([nodes for number, nodes in greatest_cliques(joined)]):
+        if stand_side_by_side(size, order):
+            places = [[place for place, nodes in enumerate(order) if node in nodes] for node in range(size)]
+            return [end for row in places for end in (row[0], row[-1])]
+    return None
+
+
+def proves_intervals(joined, told):
+    """Two are joined just if some number is from the first to the second of both."""
+    spans = [range(told[2 * node], told[2 * node + 1] + 1) for node in range(len(joined))]
+    pairs = combinations(range(len(joined)), 2)
+    return all(joined[one][other] == bool(set(spans[one]) & set(spans[other])) for one, other in pairs)
+
+
+def interval_by_search(graph):
+    joined = matrix_of(graph)
+    size = len(graph)
+    ring = first_row(size, range(4, size + 1), lambda row: is_chordless(joined, row))
+    forbidden = ring or first_row(size, [3], lambda row: are_apart(joined, row))
+    if forbidden is None or len(greatest_cliques(joined)) < 7:
+        proof = interval_proof(joined)
+        assert (forbidden is None) != (proof is None), "of each kind either the one or the other is there"
+        assert proof is None or proves_intervals(joined, proof), "every answer is proved by what's told"
+    return [1] + proof if forbidden is None else [0] + forbidden
+
+
+def can_direct(joined, pairs, leads):
+    """Whether the pairs can be directed one by one, so that with those directed already nothing is amiss."""
+    if not pairs:
+        return True
+    for start, end in (pairs[0], pairs[0][::-1]):
+        ahead = [one for one, other in leads if other == start]
+        behind = [other for one, other in leads if one == end]
+        amiss = [node for node in ahead if not joined[node][end] or (end, node) in leads]
+        amiss += [node for node in behind if not joined[start][node] or (node, start) in leads]
+        if not amiss and can_direct(joined, pairs[1:], leads + [(start, end)]):
+            return True
+    return False
+
+
+def directed_by_search(graph):
+    joined = matrix_of(graph)
+    pairs = [(one, other) for one, other in combinations(range(len(graph)), 2) if joined[one][other]]
+    return [0, 1 if can_direct(joined, pairs, []) else 0]
+
+
 SEARCHES = (
     (judge, judge_by_search), (chordal, chordal_by_search), (sides, sides_by_search),
     (split, split_by_search), (steps, steps_by_search), (nopath, nopath_by_search),
+    (interval, interval_by_search), (directed, directed_by_search), (cliques, cliques_by_search),
 )
 
 

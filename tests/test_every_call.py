@@ -2,10 +2,10 @@
 
 import unittest
 
-from goodkinds.graphs import chordal, judge, nopath, sides, split, steps
+from goodkinds.graphs import chordal, cliques, directed, interval, judge, nopath, sides, split, steps
 from making import all_pairs, graph_of, ring_of
 
-CALLS = (judge, chordal, sides, split, steps, nopath)
+CALLS = (judge, chordal, sides, split, steps, nopath, interval, directed, cliques)
 LARGEST = 4294967295
 
 
