@@ -35,7 +35,8 @@ def sides(graph):
     ring = first_ring(graph, list(range(3, len(graph) + 1, 2)))
     if ring:
         return [0] + ring
-    return [1] + two_sides(graph)
+    # Where the sides of a part can be exchanged the first row has 0 for its least node.
+    return [1] + first_colours(graph, 2)
 
 
 def split(graph):
@@ -104,6 +105,29 @@ def cliques(graph):
     if not is_graph(graph):
         return [-1]
     return [0] + greatest_cliques(graph)
+
+
+def numbers(graph):
+    """The most nodes of which any two are joined, the most of which no two are, the fewest colours."""
+    if not is_graph(graph):
+        return [-1]
+    together = members(most_joined(graph))
+    asunder = members(most_joined(opposite(graph)))
+    return [0, len(together), len(asunder), max(fewest_colours(graph)) + 1]
+
+
+def colours(graph):
+    """For each node a colour, joined ones different, by as few as can be: the first such row."""
+    if not is_graph(graph):
+        return [-1]
+    return [0] + fewest_colours(graph)
+
+
+def apart(graph):
+    """Of the sets of which no two nodes are joined, with the most nodes, the least number."""
+    if not is_graph(graph):
+        return [-1]
+    return [0, most_joined(opposite(graph))]
 
 
 def is_graph(graph):
@@ -181,27 +205,6 @@ def can_lead(graph, node, left):
             if one != other and not joined(graph, one, other):
                 return False
     return True
-
-
-def two_sides(graph):
-    """For each node 0 or 1, joined ones different, 0 for the least of each part; there's no odd ring."""
-    marks = [None] * len(graph)
-    for node in range(len(graph)):
-        if marks[node] is None:
-            marks[node] = 0
-            mark_part(graph, marks, node)
-    return marks
-
-
-def mark_part(graph, marks, start):
-    """Marks all that hang together with the start, which is marked already."""
-    waiting = [start]
-    while waiting:
-        node = waiting.pop()
-        for other in range(len(graph)):
-            if marks[other] is None and joined(graph, node, other):
-                marks[other] = 1 - marks[node]
-                waiting.append(other)
 
 
 def first_row(length, choices, fits):
@@ -333,3 +336,37 @@ def forced_by(graph, pair):
         if other != end and joined(graph, other, start) and not joined(graph, other, end):
             forced.append([start, other])
     return forced
+
+
+def most_joined(graph):
+    """Of the sets of which any two nodes are joined, with the most nodes, the least number."""
+    # Of several that are alike max takes the one told first.
+    return max(greatest_cliques(graph), key=lambda nodes: len(members(nodes)))
+
+
+def opposite(graph):
+    """The graph in which two are joined just if they aren't in this."""
+    everything = (1 << len(graph)) - 1
+    return [everything - (1 << node) - graph[node] for node in range(len(graph))]
+
+
+def fewest_colours(graph):
+    """The first row of colours for the nodes in which joined ones differ, by as few as can be."""
+    # Nodes of which any two are joined need as many colours: so fewer needn't be tried.
+    count = len(members(most_joined(graph)))
+    row = first_colours(graph, count)
+    while not row:
+        count += 1
+        row = first_colours(graph, count)
+    return row
+
+
+def first_colours(graph, count):
+    """The first row of colours below count for the nodes in which joined ones differ; else no row."""
+    return first_row(len(graph), list(range(count)), lambda row, colour: may_colour(graph, row, colour))
+
+
+def may_colour(graph, row, colour):
+    """Whether the node behind those coloured can have this colour too."""
+    node = len(row)
+    return colour not in [row[other] for other in neighbours(graph, node, list(range(node)))]

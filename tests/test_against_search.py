@@ -3,7 +3,9 @@
 import unittest
 from itertools import combinations, permutations, product
 
-from goodkinds.graphs import chordal, cliques, directed, interval, judge, nopath, sides, split, steps
+from goodkinds.graphs import (
+    apart, chordal, cliques, colours, directed, interval, judge, nopath, numbers, sides, split, steps,
+)
 from making import all_graphs, good_graphs, some_graphs
 
 
@@ -216,10 +218,41 @@ def directed_by_search(graph):
     return [0, 1 if can_direct(joined, pairs, []) else 0]
 
 
+def first_colouring(joined):
+    size = len(joined)
+    pairs = [(one, other) for one, other in combinations(range(size), 2) if joined[one][other]]
+    for count in range(1, size + 1):
+        for row in product(range(count), repeat=size):
+            if all(row[one] != row[other] for one, other in pairs):
+                return list(row)
+
+
+def colours_by_search(graph):
+    return [0] + first_colouring(matrix_of(graph))
+
+
+def is_apart(joined, nodes):
+    return not any(joined[one][other] for one, other in combinations(sorted(nodes), 2))
+
+
+def apart_by_search(graph):
+    joined = matrix_of(graph)
+    found = [(-len(nodes), number) for number, nodes in sets_of(len(graph)) if is_apart(joined, nodes)]
+    return [0, min(found)[1]]
+
+
+def numbers_by_search(graph):
+    joined = matrix_of(graph)
+    together = max(len(nodes) for number, nodes in sets_of(len(graph)) if is_clique(joined, nodes))
+    asunder = max(len(nodes) for number, nodes in sets_of(len(graph)) if is_apart(joined, nodes))
+    return [0, together, asunder, len(set(first_colouring(joined)))]
+
+
 SEARCHES = (
     (judge, judge_by_search), (chordal, chordal_by_search), (sides, sides_by_search),
     (split, split_by_search), (steps, steps_by_search), (nopath, nopath_by_search),
     (interval, interval_by_search), (directed, directed_by_search), (cliques, cliques_by_search),
+    (numbers, numbers_by_search), (colours, colours_by_search), (apart, apart_by_search),
 )
 
 
@@ -252,10 +285,10 @@ class NoGraphAmongSmall(unittest.TestCase):
     def test_all_rows_of_up_to_three_small_numbers(self):
         for size in (1, 2, 3):
             graphs = [tuple(graph) for graph in all_graphs(size)]
-            for numbers in product(range(17), repeat=size):
-                if numbers not in graphs:
+            for row in product(range(17), repeat=size):
+                if row not in graphs:
                     for call, search in SEARCHES:
-                        self.assertEqual(call(list(numbers)), [-1], (call.__name__, numbers))
+                        self.assertEqual(call(list(row)), [-1], (call.__name__, row))
 
 
 if __name__ == "__main__":

@@ -2,10 +2,12 @@
 
 import unittest
 
-from goodkinds.graphs import chordal, cliques, directed, interval, judge, nopath, sides, split, steps
+from goodkinds.graphs import (
+    apart, chordal, cliques, colours, directed, interval, judge, nopath, numbers, sides, split, steps,
+)
 from making import all_pairs, graph_of, ring_of
 
-CALLS = (judge, chordal, sides, split, steps, nopath, interval, directed, cliques)
+CALLS = (judge, chordal, sides, split, steps, nopath, interval, directed, cliques, numbers, colours, apart)
 LARGEST = 4294967295
 
 
