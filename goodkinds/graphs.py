@@ -2,10 +2,9 @@
 
 MOST_NODES = 8
 
-# Of a row of four nodes a, b, c, d: whether a b, a c, b c, a d, b d, c d are joined.
-RING_OF_FOUR = (True, False, True, True, False, True)
-BARE_PATH = (True, False, True, False, False, True)
-BARE_PAIRS = (True, False, False, False, False, True)
+# A shape tells of each place of a row with which places ahead of it the node there is joined.
+BARE_PATH = ((), (0,), (1,), (2,))
+BARE_PAIRS = ((), (0,), (), (2,))
 
 
 def judge(graph):
@@ -23,7 +22,7 @@ def chordal(graph):
     ring = first_ring(graph, list(range(4, len(graph) + 1)))
     if ring:
         return [0] + ring
-    return [1] + first_order(graph)
+    return [1] + first_row(len(graph), list(range(len(graph))), lambda row, node: may_lead(graph, row, node))
 
 
 def sides(graph):
@@ -43,7 +42,7 @@ def split(graph):
     """1 and the first marks that prove it, or 0 and the first ring of four or five or bare pair of pairs."""
     if not is_graph(graph):
         return [-1]
-    forbidden = first_four(graph, (RING_OF_FOUR, BARE_PAIRS)) or first_ring(graph, [5])
+    forbidden = first_shaped(graph, (ring_shape(4), ring_shape(5), BARE_PAIRS))
     if forbidden:
         return [0] + forbidden
     return [1] + first_row(len(graph), [0, 1], lambda marks, mark: may_mark(graph, marks, mark))
@@ -53,7 +52,7 @@ def steps(graph):
     """1 and the first order that proves it, or 0 and the first ring of four, bare path or bare pair of pairs."""
     if not is_graph(graph):
         return [-1]
-    forbidden = first_four(graph, (RING_OF_FOUR, BARE_PATH, BARE_PAIRS))
+    forbidden = first_shaped(graph, (ring_shape(4), BARE_PATH, BARE_PAIRS))
     if forbidden:
         return [0] + forbidden
     return [1] + first_row(len(graph), list(range(len(graph))), lambda row, node: may_step(graph, row, node))
@@ -63,7 +62,7 @@ def nopath(graph):
     """1 if there's no bare path, or 0 and the first one."""
     if not is_graph(graph):
         return [-1]
-    path = first_four(graph, (BARE_PATH,))
+    path = first_shaped(graph, (BARE_PATH,))
     if path:
         return [0] + path
     return [1]
@@ -89,14 +88,11 @@ def directed(graph):
     """1 if each joined pair can be directed so that ways of two steps have their short cut, else 0."""
     if not is_graph(graph):
         return [-1]
-    seen = []
-    for row in joined_rows(graph):
-        if row not in seen:
+    for start in range(len(graph)):
+        for end in members(graph[start]):
             # Where no direction forces its own opposite all pairs can be directed: so a theorem of Gallai says.
-            forced = reached(row, lambda pair: forced_by(graph, pair))
-            if [row[1], row[0]] in forced:
+            if (end, start) in reached((start, end), lambda pair: forced_by(graph, pair)):
                 return [0, 0]
-            seen.extend(forced)
     return [0, 1]
 
 
@@ -159,54 +155,6 @@ def members(nodes):
     return [node for node in range(MOST_NODES) if (nodes >> node) & 1 == 1]
 
 
-def joined_rows(graph):
-    """All rows of two joined nodes, the first one first."""
-    rows = []
-    for node in range(len(graph)):
-        for other in range(len(graph)):
-            if joined(graph, node, other):
-                rows.append([node, other])
-    return rows
-
-
-def first_ring(graph, lengths):
-    """The first ring without a chord that has one of these lengths, the shortest told first; else no row."""
-    for length in lengths:
-        ring = first_row(length, list(range(len(graph))), lambda row, node: begins_ring(graph, length, row, node))
-        if ring:
-            return ring
-    return []
-
-
-def begins_ring(graph, length, row, node):
-    """Whether the node is new and the row with it begins such a ring, or is one if it's as long."""
-    ends = [row[0], row[-1]] if len(row) == length - 1 else row[-1:]
-    return node not in row and neighbours(graph, node, row) == ends
-
-
-def first_order(graph):
-    """The first order in which of each node those behind it that it's joined with are joined with one another."""
-    order = []
-    left = list(range(len(graph)))
-    while left:
-        # Without a chordless ring there's always a node that can go ahead of all that are left,
-        # and what's left without it has no such ring either: so the least such node is never wrong.
-        least = min([node for node in left if can_lead(graph, node, left)])
-        order.append(least)
-        left = [node for node in left if node != least]
-    return order
-
-
-def can_lead(graph, node, left):
-    """Whether those of the nodes left that this one is joined with are all joined with one another."""
-    near = neighbours(graph, node, left)
-    for one in near:
-        for other in near:
-            if one != other and not joined(graph, one, other):
-                return False
-    return True
-
-
 def first_row(length, choices, fits):
     """The first row of this length in which each choice fits those ahead of it; else no row."""
     waiting = [[]]
@@ -221,24 +169,37 @@ def first_row(length, choices, fits):
     return []
 
 
-def first_four(graph, shapes):
-    """The first row of four nodes that has one of the shapes; else no row."""
-    return first_row(4, list(range(len(graph))), lambda row, node: begins_shape(graph, shapes, row, node))
+def first_shaped(graph, shapes):
+    """The first of all rows of nodes that have one of the shapes; else no row."""
+    rows = [first_of_shape(graph, shape) for shape in shapes]
+    return min([row for row in rows if row], key=lambda row: (len(row), row), default=[])
 
 
-def begins_shape(graph, shapes, row, node):
-    """Whether the node is new and the row with it begins one of the shapes."""
-    told = pairs_joined(graph, row + [node])
-    return node not in row and any([shape[:len(told)] == told for shape in shapes])
+def first_of_shape(graph, shape):
+    """The first row of nodes that has the shape; else no row."""
+    return first_row(len(shape), list(range(len(graph))), lambda row, node: keeps_shape(graph, shape, row, node))
 
 
-def pairs_joined(graph, row):
-    """For each pair of the row whether it's joined, in the order in which the shapes tell it."""
-    told = []
-    for place in range(len(row)):
-        for ahead in range(place):
-            told.append(joined(graph, row[ahead], row[place]))
-    return tuple(told)
+def keeps_shape(graph, shape, row, node):
+    """Whether the node is new, and of the row joined with just those that the shape tells."""
+    near = [place for place in range(len(row)) if joined(graph, row[place], node)]
+    return node not in row and tuple(near) == shape[len(row)]
+
+
+def ring_shape(length):
+    """The shape of a ring without a chord."""
+    return [()] + [(place,) for place in range(length - 2)] + [(0, length - 2)]
+
+
+def first_ring(graph, lengths):
+    """The first ring without a chord that has one of these lengths; else no row."""
+    return first_shaped(graph, [ring_shape(length) for length in lengths])
+
+
+def may_lead(graph, row, node):
+    """Whether the node is new, and those it's joined with that aren't in the row are all joined with one another."""
+    near = [other for other in members(graph[node]) if other not in row]
+    return node not in row and all([len(neighbours(graph, other, near)) == len(near) - 1 for other in near])
 
 
 def may_mark(graph, marks, mark):
@@ -332,9 +293,9 @@ def forced_by(graph, pair):
     forced = []
     for other in range(len(graph)):
         if other != start and joined(graph, other, end) and not joined(graph, other, start):
-            forced.append([other, end])
+            forced.append((other, end))
         if other != end and joined(graph, other, start) and not joined(graph, other, end):
-            forced.append([start, other])
+            forced.append((start, other))
     return forced
 
 
