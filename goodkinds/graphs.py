@@ -126,6 +126,38 @@ def apart(graph):
     return [0, most_joined(opposite(graph))]
 
 
+def modules(graph):
+    """How many strong modules of two nodes or more there are; they, the smaller first; and the kind of each."""
+    if not is_graph(graph):
+        return [-1]
+    every = [nodes for nodes in range(1, 1 << len(graph)) if is_module(graph, nodes)]
+    strong = [nodes for nodes in every if len(members(nodes)) > 1 and is_strong(nodes, every)]
+    # Of one size they stay as they were, the lesser number first.
+    told = sorted(strong, key=lambda nodes: len(members(nodes)))
+    return [0, len(told)] + told + [kind_of(graph, nodes) for nodes in told]
+
+
+def turned(graph):
+    """The graph in which two are joined just if they aren't in this."""
+    if not is_graph(graph):
+        return [-1]
+    return [0] + opposite(graph)
+
+
+def part(nodes, graph):
+    """The graph of the nodes of this set, numbered in their order, joined as here."""
+    if not is_graph(graph):
+        return [-1]
+    if nodes == 0 or nodes >> len(graph) != 0:
+        return [-2]
+    kept = members(nodes)
+    answer = [0]
+    for node in kept:
+        places = [place for place in range(len(kept)) if joined(graph, node, kept[place])]
+        answer.append(sum([1 << place for place in places]))
+    return answer
+
+
 def is_graph(graph):
     """Whether the numbers tell a graph."""
     size = len(graph)
@@ -331,3 +363,29 @@ def may_colour(graph, row, colour):
     """Whether the node behind those coloured can have this colour too."""
     node = len(row)
     return colour not in [row[other] for other in neighbours(graph, node, list(range(node)))]
+
+
+def is_module(graph, nodes):
+    """Whether each node outside the set is joined with all of it or with none."""
+    outside = [node for node in range(len(graph)) if node not in members(nodes)]
+    return all([graph[node] & nodes in (0, nodes) for node in outside])
+
+
+def is_strong(nodes, every):
+    """Whether of all modules none overlaps this one: they have no nodes in common, or one is within the other."""
+    return all([nodes & other in (0, nodes, other) for other in every])
+
+
+def kind_of(graph, nodes):
+    """0 if the set doesn't hang together, 1 if what's not joined in it doesn't, else 2."""
+    if not hangs_together(graph, nodes):
+        return 0
+    if not hangs_together(opposite(graph), nodes):
+        return 1
+    return 2
+
+
+def hangs_together(graph, nodes):
+    """Whether one comes from each node of the set to each by joined nodes of the set."""
+    inside = members(nodes)
+    return len(reached(inside[0], lambda node: neighbours(graph, node, inside))) == len(inside)

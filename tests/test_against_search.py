@@ -4,7 +4,8 @@ import unittest
 from itertools import combinations, permutations, product
 
 from goodkinds.graphs import (
-    apart, chordal, cliques, colours, directed, interval, judge, nopath, numbers, sides, split, steps,
+    apart, chordal, cliques, colours, directed, interval, judge, modules, nopath, numbers, part, sides, split, steps,
+    turned,
 )
 from making import all_graphs, good_graphs, some_graphs
 
@@ -248,11 +249,55 @@ def numbers_by_search(graph):
     return [0, together, asunder, len(set(first_colouring(joined)))]
 
 
+def is_module(joined, nodes):
+    outside = [node for node in range(len(joined)) if node not in nodes]
+    return all(len({joined[node][other] for other in nodes}) == 1 for node in outside)
+
+
+def hangs_together(nodes, are_joined):
+    walked = [min(nodes)]
+    for member in walked:
+        walked.extend(node for node in sorted(nodes) if node not in walked and are_joined(member, node))
+    return set(walked) == nodes
+
+
+def kind_of(joined, nodes):
+    if not hangs_together(nodes, lambda one, other: joined[one][other]):
+        return 0
+    return 2 if hangs_together(nodes, lambda one, other: not joined[one][other]) else 1
+
+
+def modules_by_search(graph):
+    joined = matrix_of(graph)
+    found = [(number, nodes) for number, nodes in sets_of(len(graph)) if is_module(joined, nodes)]
+    strong = []
+    for number, nodes in found:
+        if len(nodes) > 1 and not any(nodes & other and nodes - other and other - nodes for same, other in found):
+            strong.append((len(nodes), number, kind_of(joined, nodes)))
+    strong.sort()
+    return [0, len(strong)] + [row[1] for row in strong] + [row[2] for row in strong]
+
+
+def turned_by_search(graph):
+    joined = matrix_of(graph)
+    size = range(len(graph))
+    return [0] + [sum(2 ** other for other in size if other != node and not joined[node][other]) for node in size]
+
+
+def part_by_search(number, graph):
+    joined = matrix_of(graph)
+    kept = [node for node in range(32) if number >> node & 1]
+    if not kept or kept[-1] >= len(graph):
+        return [-2]
+    return [0] + [sum(2 ** place for place, other in enumerate(kept) if joined[node][other]) for node in kept]
+
+
 SEARCHES = (
     (judge, judge_by_search), (chordal, chordal_by_search), (sides, sides_by_search),
     (split, split_by_search), (steps, steps_by_search), (nopath, nopath_by_search),
     (interval, interval_by_search), (directed, directed_by_search), (cliques, cliques_by_search),
     (numbers, numbers_by_search), (colours, colours_by_search), (apart, apart_by_search),
+    (modules, modules_by_search), (turned, turned_by_search),
 )
 
 
@@ -273,12 +318,28 @@ class AgainstSearch(unittest.TestCase):
         self.hold(some_graphs(7, 80))
 
     def test_graphs_of_eight_nodes(self):
-        self.hold(some_graphs(8, 40))
+        self.hold(some_graphs(8, 24))
 
     def test_graphs_of_good_kinds(self):
         self.hold(good_graphs(6, 200))
         self.hold(good_graphs(7, 80))
-        self.hold(good_graphs(8, 24))
+        self.hold(good_graphs(8, 16))
+
+
+class PartAgainstSearch(unittest.TestCase):
+    def hold(self, graphs):
+        for graph in graphs:
+            for number in range(2 ** (len(graph) + 1)):
+                self.assertEqual(part(number, list(graph)), part_by_search(number, graph), (number, graph))
+
+    def test_all_graphs_of_up_to_four_nodes(self):
+        for size in range(1, 5):
+            self.hold(all_graphs(size))
+
+    def test_larger_graphs(self):
+        for size in range(5, 9):
+            self.hold(some_graphs(size, 8))
+            self.hold(good_graphs(size, 8))
 
 
 class NoGraphAmongSmall(unittest.TestCase):
@@ -289,6 +350,8 @@ class NoGraphAmongSmall(unittest.TestCase):
                 if row not in graphs:
                     for call, search in SEARCHES:
                         self.assertEqual(call(list(row)), [-1], (call.__name__, row))
+                    for nodes in range(17):
+                        self.assertEqual(part(nodes, list(row)), [-1], (nodes, row))
 
 
 if __name__ == "__main__":

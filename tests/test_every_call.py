@@ -3,11 +3,24 @@
 import unittest
 
 from goodkinds.graphs import (
-    apart, chordal, cliques, colours, directed, interval, judge, nopath, numbers, sides, split, steps,
+    apart, chordal, cliques, colours, directed, interval, judge, modules, nopath, numbers, part, sides, split, steps,
+    turned,
 )
 from making import all_pairs, graph_of, ring_of
 
-CALLS = (judge, chordal, sides, split, steps, nopath, interval, directed, cliques, numbers, colours, apart)
+
+def part_of_node_0(graph):
+    return part(1, graph)
+
+
+def part_of_no_node(graph):
+    return part(0, graph)
+
+
+CALLS = (
+    judge, chordal, sides, split, steps, nopath, interval, directed, cliques, numbers, colours, apart, modules, turned,
+    part_of_node_0, part_of_no_node,
+)
 LARGEST = 4294967295
 
 

@@ -87,6 +87,7 @@ class Sides(unittest.TestCase):
         self.assertEqual(sides(graph_of(4, [(0, 3), (1, 2)])), [1, 0, 0, 1, 1])
         self.assertEqual(sides(graph_of(6, path_of(4, 1, 5) + [(0, 3)])), [1, 0, 0, 0, 1, 1, 1])
         self.assertEqual(sides(graph_of(5, path_of(0, 4, 2, 3, 1))), [1, 0, 0, 0, 1, 1])
+        self.assertEqual(sides(graph_of(4, path_of(0, 2, 3, 1))), [1, 0, 1, 1, 0])
 
     def test_ring_of_three_is_odd(self):
         self.assertEqual(sides([6, 5, 3]), [0, 0, 1, 2])

@@ -60,6 +60,9 @@ class Colours(unittest.TestCase):
         # By greed, the least colour that's free for each node in turn, these would take three and four.
         self.assertEqual(colours(graph_of(4, path_of(0, 2, 3, 1))), [0, 0, 1, 1, 0])
         self.assertEqual(colours(CROWN), [0, 0, 1, 0, 1, 0, 1, 0, 1])
+        # Three are needed for the ring of five; by greed node 5 would have 1, and 6 a fourth.
+        ring_with_ends = graph_of(7, ring_of(0, 2, 4, 6, 5) + [(1, 6), (3, 4)])
+        self.assertEqual(colours(ring_with_ends), [0, 0, 0, 1, 0, 2, 2, 1])
 
     def test_row_is_the_first(self):
         self.assertEqual(colours(RING_OF_FIVE), [0, 0, 1, 0, 1, 2])
